@@ -1,0 +1,1 @@
+"""nodeline: one end of a line to another node."""
