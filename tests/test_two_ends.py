@@ -219,6 +219,8 @@ class TwoEnds(unittest.TestCase):
                     check_safe(net)
 
     def test_then_each_piece_comes(self):
+        # In the order of sending: a piece that comes too early isn't kept (point 3), and only four
+        # are sent again at a tick (point 4), so in another order it may take more ticks.
         for seed in range(COURSES):
             with self.subTest(seed=seed):
                 net = course(seed)
@@ -239,6 +241,22 @@ class TwoEnds(unittest.TestCase):
         for at in (0, 1):
             self.assertTrue(net.sides[at].is_up())
             self.assertEqual(net.sides[1 - at].now.got[-len(sent[at]):] if sent[at] else [], sent[at])
+
+    def test_in_turned_order_each_piece_comes_some_ticks_later(self):
+        net = Net(random.Random(4))
+        for tick in range(20):
+            net.round(False)
+        first, second = net.sides
+        pieces = [first.send() for piece in range(3)]
+        for count in (1, 2, 3):
+            net.gather()
+            for message in reversed(net.under_way[1]):
+                self.assertEqual(second.call(heard(message))[0], 0)
+            net.under_way[1].clear()
+            net.gather()
+            self.assertEqual(second.now.got, pieces[:count])
+            net.deliver_all(False)
+            first.call(TICK)
 
     def test_all_that_waits_comes_within_20_ticks(self):
         net = Net(random.Random(1))
